@@ -1,0 +1,1 @@
+"""Tables changed by the fewest statements, in an order in which no rule is broken."""
