@@ -1,10 +1,13 @@
 """The calls on one object, one behind another, and their answers."""
 
+from fewstatements.checking import checked, read_statements
 from fewstatements.faults import Fault
+from fewstatements.planning import best_outcome, is_split, made_first, splittable
 from fewstatements.reading import read_schema
 from fewstatements.rows import NotOfForm, no_rows, read_rows, told_rows
 from fewstatements.rules import first_breach
-from fewstatements.statements import changed_rows, direct_statements, told_statements
+from fewstatements.statements import changed_rows, direct_statements, raw_statements, told_changed, told_statements
+from fewstatements.steps import all_ways
 from fewstatements.writing import written_schema
 
 LOAD = 0
@@ -14,6 +17,12 @@ WISH = 3
 TABLES = 4
 CHANGED = 5
 DIRECT = 6
+PLAN = 7
+FIRST = 8
+CHECK = 9
+RAW = 10
+FLUSH = 11
+SIZE = 12
 
 DONE = 0
 NOT_DONE = 1
@@ -21,9 +30,13 @@ NOT_DONE = 1
 NO_BYTE = -1
 TEXT_TOO_LONG = -2
 ROWS_NOT_OF_FORM = -4
+STATEMENTS_NOT_OF_FORM = -7
+TOO_MANY_CHANGED = -10
+NO_SPLIT = -12
 
 GREATEST_BYTE = 255
 LONGEST_TEXT = 4096
+MOST_PLANNED = 8
 
 
 class UnknownCall(Exception):
@@ -33,7 +46,7 @@ class UnknownCall(Exception):
 class Held:
     """A schema's tables, their rows now, and their rows as wished.
 
-    Rows are never changed in place, so now and wished may be the same ones.
+    The rows held here are never changed in place, so now and wished may be the same ones.
     """
 
     def __init__(self):
@@ -50,7 +63,7 @@ def answers(calls):
     while place < len(calls):
         call = calls[place]
         place += 1
-        if call in (LOAD, FILL, WISH):
+        if call in (LOAD, FILL, WISH, FIRST, CHECK):
             end = place + 1 + calls[place]
             answer = answer_with_list(held, call, calls[place + 1:end])
             place = end
@@ -64,6 +77,10 @@ def answers(calls):
 def answer_with_list(held, call, numbers):
     if call == LOAD:
         return answer_load(held, numbers)
+    if call == FIRST:
+        return answer_first(held, numbers)
+    if call == CHECK:
+        return answer_check(held, numbers)
     return answer_rows(held, call, numbers)
 
 
@@ -73,9 +90,17 @@ def answer_alone(held, call):
     if call == TABLES:
         return [DONE] + told_rows(held.now) + told_rows(held.wished)
     if call == CHANGED:
-        return answer_changed(held)
+        return [DONE] + told_changed(changed_rows(held.now, held.wished))
     if call == DIRECT:
         return [DONE] + told_statements(direct_statements(held.now, held.wished))
+    if call == PLAN:
+        return answer_plan(held)
+    if call == RAW:
+        return [DONE] + told_statements(raw_statements(held.now, held.wished))
+    if call == FLUSH:
+        return answer_flush(held)
+    if call == SIZE:
+        return answer_size(held)
     raise UnknownCall()
 
 
@@ -109,9 +134,46 @@ def answer_rows(held, call, numbers):
     return [DONE]
 
 
-def answer_changed(held):
-    changed = changed_rows(held.now, held.wished)
-    told = [DONE, len(changed)]
-    for row in changed:
-        told.extend(row)
-    return told
+def answer_plan(held):
+    ways = all_ways(held.schema, held.now, held.wished)
+    if len(ways) > MOST_PLANNED:
+        return [TOO_MANY_CHANGED]
+    outcome = best_outcome(held.schema, held.now, ways)
+    if outcome.left != []:
+        return [NOT_DONE] + told_changed([ways[number].changed for number in outcome.left])
+    return [DONE, len(outcome.chosen)] + outcome.chosen + told_statements(outcome.made)
+
+
+def answer_first(held, split):
+    ways = all_ways(held.schema, held.now, held.wished)
+    if len(ways) > MOST_PLANNED:
+        return [TOO_MANY_CHANGED]
+    if not is_split(ways, split):
+        return [NO_SPLIT]
+    outcome = made_first(held.schema, held.now, ways, split)
+    first_number = DONE if outcome.left == [] else NOT_DONE
+    return [first_number] + told_statements(outcome.made) + outcome.left
+
+
+def answer_check(held, numbers):
+    try:
+        statements = read_statements(held.schema, numbers)
+    except NotOfForm:
+        return [STATEMENTS_NOT_OF_FORM]
+    return checked(held.schema, held.now, held.wished, statements)
+
+
+def answer_flush(held):
+    ways = all_ways(held.schema, held.now, held.wished)
+    if len(ways) > MOST_PLANNED:
+        return [TOO_MANY_CHANGED]
+    outcome = best_outcome(held.schema, held.now, ways)
+    if outcome.left != []:
+        return [NOT_DONE]
+    held.now = held.wished
+    return [DONE, len(outcome.made)]
+
+
+def answer_size(held):
+    ways = all_ways(held.schema, held.now, held.wished)
+    return [DONE, len(ways), len(splittable(ways))]

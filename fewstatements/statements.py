@@ -53,6 +53,23 @@ def direct_statements(now, wished):
     return [direct_statement(now, wished, changed) for changed in changed_rows(now, wished)]
 
 
+def raw_statements(now, wished):
+    """The direct statements in the order that does where rules are looked at in the end alone."""
+    statements = direct_statements(now, wished)
+    ordered = []
+    for kind in (DELETE, UPDATE, INSERT):
+        ordered.extend([statement for statement in statements if statement.kind == kind])
+    return ordered
+
+
+def told_changed(changed):
+    """How many changed rows these are, and the numbers that tell them."""
+    told = [len(changed)]
+    for row in changed:
+        told.extend(row)
+    return told
+
+
 def told_statement(statement):
     """The numbers that tell the statement."""
     told = [statement.kind, statement.table, statement.ident]

@@ -12,6 +12,10 @@ WRITTEN = [1]
 TABLES = [4]
 CHANGED = [5]
 DIRECT = [6]
+PLAN = [7]
+RAW = [10]
+FLUSH = [11]
+SIZE = [12]
 
 
 def load(text):
@@ -25,6 +29,14 @@ def fill(*numbers):
 
 def wish(*numbers):
     return [3, len(numbers)] + list(numbers)
+
+
+def first(*numbers):
+    return [8, len(numbers)] + list(numbers)
+
+
+def check(*numbers):
+    return [9, len(numbers)] + list(numbers)
 
 
 def parted(told):
@@ -47,3 +59,16 @@ def ask(*calls):
 
 def last(*calls):
     return ask(*calls)[-1]
+
+
+def asked(schema, now, wished, *calls):
+    """The answers of these calls alone, once this is loaded, filled and wished; fails if that isn't taken."""
+    told = ask(load(schema), fill(*now), wish(*wished), *calls)
+    if [told[0][0]] + told[1] + told[2] != [0, 0, 0]:
+        raise AssertionError("not taken: %r" % told[:3])
+    return told[3:]
+
+
+def joined(*statements):
+    """The numbers of these statements, one behind another."""
+    return [number for statement in statements for number in statement]
